@@ -41,7 +41,7 @@ func Check16(b []byte) int {
 
 // AddressText tells an address as its four bytes' numbers.
 func AddressText(ip int) (string, int) {
-	if ip < 0 || ip > MaxAddress {
+	if !addressOK(ip) {
 		return "", ErrRange
 	}
 	var text []byte
@@ -116,10 +116,7 @@ func ReadMac(t string) (string, int) {
 
 // NumberBytes is n in size bytes, the higher ones first.
 func NumberBytes(n, size int) ([]byte, int) {
-	if size < 1 || size > maxNumber {
-		return nil, ErrRange
-	}
-	if n < 0 || n>>(8*size) != 0 {
+	if size < 1 || size > maxNumber || !hasRoom(n, size) {
 		return nil, ErrRange
 	}
 	b := make([]byte, size)
@@ -142,6 +139,15 @@ func NumberOf(b []byte) (int, int) {
 		n = n<<8 | int(b[i])
 	}
 	return n, OK
+}
+
+func addressOK(ip int) bool {
+	return ip >= 0 && ip <= MaxAddress
+}
+
+// hasRoom tells whether n goes into size bytes, where size is from 1 to maxNumber.
+func hasRoom(n, size int) bool {
+	return n >= 0 && n>>(8*size) == 0
 }
 
 // hexValue is what a digit from 0 to f stands for, or -1; capitals are none.

@@ -43,6 +43,40 @@ func TestArgumentsStayAsTheyWere(t *testing.T) {
 	}
 }
 
+func TestFramesHandedInStayAsTheyWere(t *testing.T) {
+	frame := []byte(macA + macB + "\x08\x00body")
+	arp := []byte("\x00\x01\x08\x00\x06\x04\x00\x02" + macA + "\x0a\x00\x00\x02" + macB + "\x0a\x00\x00\x01")
+	for _, text := range [][]byte{nil, sampleBytes(19, 1), frame, arp, packetBytes(samplePacket(5)),
+		segmentBytes(1, 2, sampleSegment(5)), datagramBytes(1, 2, sampleDatagram(5)), sampleBytes(420, 2)} {
+		room := append(bytes.Clone(text), sampleBytes(40, 3)...)
+		before := bytes.Clone(room)
+		b := room[:len(text)]
+		impl.ReadFrame(b)
+		impl.ReadArp(b)
+		impl.ReadPacket(b)
+		impl.ReadSegment(1, 2, b)
+		impl.ReadDatagram(1, 2, b)
+		if !bytes.Equal(room, before) {
+			t.Errorf("with %d bytes handed in, %x became %x", len(text), before, room)
+		}
+	}
+}
+
+func TestFramesReadAreNewMemory(t *testing.T) {
+	b := []byte(macA + macB + "\x08\x00body")
+	f, _ := impl.ReadFrame(b)
+	clear(b)
+	if want := (impl.Frame{Dst: macA, Src: macB, Kind: impl.KindIp, Body: "body"}); f != want {
+		t.Errorf("a frame was changed through the bytes it was read from: %v", f)
+	}
+	b = packetBytes(samplePacket(5))
+	p, _ := impl.ReadPacket(b)
+	clear(b)
+	if p != samplePacket(5) {
+		t.Errorf("a packet was changed through the bytes it was read from: %v", p)
+	}
+}
+
 func TestAnswersAreNewMemory(t *testing.T) {
 	a, _ := impl.NumberBytes(0x010203, 3)
 	b, _ := impl.NumberBytes(0x010203, 3)
@@ -52,6 +86,20 @@ func TestAnswersAreNewMemory(t *testing.T) {
 	_ = append(a, 0xff)
 	if c, _ := impl.NumberBytes(0x010203, 3); string(b) != "\x01\x02\x03" || string(c) != "\x01\x02\x03" {
 		t.Errorf("an answer was changed through another one: %v, %v", b, c)
+	}
+}
+
+func TestEmptyFramesAreAlike(t *testing.T) {
+	for _, read := range []func(b []byte) int{
+		func(b []byte) int { _, code := impl.ReadFrame(b); return code },
+		func(b []byte) int { _, code := impl.ReadArp(b); return code },
+		func(b []byte) int { _, code := impl.ReadPacket(b); return code },
+		func(b []byte) int { _, code := impl.ReadSegment(1, 2, b); return code },
+		func(b []byte) int { _, code := impl.ReadDatagram(1, 2, b); return code },
+	} {
+		if a, b := read(nil), read([]byte{}); a != impl.ErrForm || b != impl.ErrForm {
+			t.Errorf("of nil %d, of an empty list %d", a, b)
+		}
 	}
 }
 
@@ -65,7 +113,7 @@ func TestEmptyAndNilAreAlike(t *testing.T) {
 	}
 }
 
-// sampleCalls has the calls of chapters 1 and 2 with right arguments, edges and
+// sampleCalls has the calls of the chapters with right arguments, edges and
 // wrong ones: a panic in any of them fails the test.
 func sampleCalls() []call {
 	var calls []call
@@ -85,6 +133,47 @@ func sampleCalls() []call {
 		add("AddressText", func() []any { text, code := impl.AddressText(n); return []any{text, code} })
 		for _, size := range []int{math.MinInt, -1, 0, 1, 2, 4, 6, 7, math.MaxInt} {
 			add("NumberBytes", func() []any { b, code := impl.NumberBytes(n, size); return []any{string(b), code} })
+		}
+	}
+	return append(calls, wireCalls()...)
+}
+
+// wireCalls has the calls of chapter 3 likewise.
+func wireCalls() []call {
+	var calls []call
+	add := func(name string, do func() []any) { calls = append(calls, call{name, do}) }
+	for _, b := range [][]byte{nil, make([]byte, 8), make([]byte, 20), sampleBytes(28, 4), sampleBytes(400, 5), sampleBytes(414, 6),
+		[]byte(macA + macB + "\x08\x06"), packetBytes(samplePacket(380)), segmentBytes(1, 2, sampleSegment(360)),
+		datagramBytes(1, 2, sampleDatagram(372)), make([]byte, impl.MaxText), make([]byte, impl.MaxText+1)} {
+		add("ReadFrame", func() []any { f, code := impl.ReadFrame(b); return []any{f, code} })
+		add("ReadArp", func() []any { a, code := impl.ReadArp(b); return []any{a, code} })
+		add("ReadPacket", func() []any { p, code := impl.ReadPacket(b); return []any{p, code} })
+		add("ReadSegment", func() []any { g, code := impl.ReadSegment(1, 2, b); return []any{g, code} })
+		add("ReadDatagram", func() []any { d, code := impl.ReadDatagram(1, 2, b); return []any{d, code} })
+	}
+	for _, n := range []int{math.MinInt, -1, 0, 1, 2, 31, 32, 255, 256, 0x0800, 0x0806, 65535, 65536, impl.MaxAddress, impl.MaxAddress + 1, math.MaxInt} {
+		add("FlagsText", func() []any { text, code := impl.FlagsText(n); return []any{text, code} })
+		for _, text := range []string{"", macA, string(sampleBytes(400, 7)), strings.Repeat("t", impl.MaxText+1)} {
+			add("FrameBytes", func() []any {
+				b, code := impl.FrameBytes(impl.Frame{Dst: macA, Src: macB, Kind: n, Body: text})
+				return []any{string(b), code}
+			})
+			add("ArpBytes", func() []any {
+				b, code := impl.ArpBytes(impl.Arp{Op: 1, SrcMac: text, DstMac: macB, SrcIp: n, DstIp: n})
+				return []any{string(b), code}
+			})
+			add("PacketBytes", func() []any {
+				b, code := impl.PacketBytes(impl.Packet{Src: n, Dst: n, Proto: n, Ttl: n, Id: n, Body: text})
+				return []any{string(b), code}
+			})
+			add("SegmentBytes", func() []any {
+				b, code := impl.SegmentBytes(n, n, impl.Segment{SrcPort: n, DstPort: n, Seq: n, Ack: n, Flags: n, Window: n, Data: text})
+				return []any{string(b), code}
+			})
+			add("DatagramBytes", func() []any {
+				b, code := impl.DatagramBytes(n, n, impl.Datagram{SrcPort: n, DstPort: n, Data: text})
+				return []any{string(b), code}
+			})
 		}
 	}
 	return calls
