@@ -62,6 +62,64 @@ func TestFramesHandedInStayAsTheyWere(t *testing.T) {
 	}
 }
 
+func TestMessagesHandedInStayAsTheyWere(t *testing.T) {
+	question, lease := dnsBytes(impl.Dns{Id: 1, Type: 2, Name: "a.bc"}), dhcpBytes(impl.Dhcp{Kind: 3, Mac: macA})
+	for _, text := range [][]byte{nil, sampleBytes(19, 1), question, question[:14], question[:len(question)-1], lease, lease[:240], lease[:242], lease[:243],
+		rawDhcp("\x00\x0c\x09ab"), sampleBytes(420, 2)} {
+		room := append(bytes.Clone(text), sampleBytes(40, 3)...)
+		before := bytes.Clone(room)
+		impl.ReadDns(room[:len(text)])
+		impl.ReadDhcp(room[:len(text)])
+		if !bytes.Equal(room, before) {
+			t.Errorf("with %d bytes handed in, %x became %x", len(text), before, room)
+		}
+	}
+}
+
+// What stands behind the end of an argument is not of it, even if it would make it whole.
+func TestMessagesEndAtTheirEnd(t *testing.T) {
+	question, lease := dnsBytes(impl.Dns{Id: 1, Type: 2, Name: "a.bc"}), dhcpBytes(impl.Dhcp{Kind: 3, Mac: macA})
+	for size := range len(question) {
+		if _, code := impl.ReadDns(question[:size:len(question)]); code != impl.ErrForm {
+			t.Errorf("ReadDns of %d bytes: %d", size, code)
+		}
+	}
+	for size := range len(lease) {
+		if _, code := impl.ReadDhcp(lease[:size:len(lease)]); code != impl.ErrForm {
+			t.Errorf("ReadDhcp of %d bytes: %d", size, code)
+		}
+	}
+}
+
+func TestMessagesReadAreNewMemory(t *testing.T) {
+	question, lease := impl.Dns{Id: 1, Type: 2, Name: "a.bc"}, impl.Dhcp{Xid: 4, Kind: 3, Mac: macA}
+	b := dnsBytes(question)
+	d, _ := impl.ReadDns(b)
+	clear(b)
+	if d != question {
+		t.Errorf("a question was changed through the bytes it was read from: %v", d)
+	}
+	b = dhcpBytes(lease)
+	h, _ := impl.ReadDhcp(b)
+	clear(b)
+	if h != lease {
+		t.Errorf("a message was changed through the bytes it was read from: %v", h)
+	}
+}
+
+func TestMessagesMadeAreNewMemory(t *testing.T) {
+	question, lease := impl.Dns{Id: 1, Type: 2, Name: "a.bc"}, impl.Dhcp{Xid: 4, Kind: 3, Mac: macA}
+	for range 2 {
+		b, _ := impl.DnsBytes(question)
+		h, _ := impl.DhcpBytes(lease)
+		if !bytes.Equal(b, dnsBytes(question)) || !bytes.Equal(h, dhcpBytes(lease)) {
+			t.Errorf("an answer was changed through another one: %x, %x", b, h)
+		}
+		clear(b[:cap(b)])
+		clear(h[:cap(h)])
+	}
+}
+
 func TestFramesReadAreNewMemory(t *testing.T) {
 	b := []byte(macA + macB + "\x08\x00body")
 	f, _ := impl.ReadFrame(b)
@@ -96,6 +154,8 @@ func TestEmptyFramesAreAlike(t *testing.T) {
 		func(b []byte) int { _, code := impl.ReadPacket(b); return code },
 		func(b []byte) int { _, code := impl.ReadSegment(1, 2, b); return code },
 		func(b []byte) int { _, code := impl.ReadDatagram(1, 2, b); return code },
+		func(b []byte) int { _, code := impl.ReadDns(b); return code },
+		func(b []byte) int { _, code := impl.ReadDhcp(b); return code },
 	} {
 		if a, b := read(nil), read([]byte{}); a != impl.ErrForm || b != impl.ErrForm {
 			t.Errorf("of nil %d, of an empty list %d", a, b)
@@ -135,7 +195,7 @@ func sampleCalls() []call {
 			add("NumberBytes", func() []any { b, code := impl.NumberBytes(n, size); return []any{string(b), code} })
 		}
 	}
-	return append(calls, wireCalls()...)
+	return slices.Concat(calls, wireCalls(), appCalls())
 }
 
 // wireCalls has the calls of chapter 3 likewise.
@@ -172,6 +232,33 @@ func wireCalls() []call {
 			})
 			add("DatagramBytes", func() []any {
 				b, code := impl.DatagramBytes(n, n, impl.Datagram{SrcPort: n, DstPort: n, Data: text})
+				return []any{string(b), code}
+			})
+		}
+	}
+	return calls
+}
+
+// appCalls has the calls of chapter 4 likewise.
+func appCalls() []call {
+	var calls []call
+	add := func(name string, do func() []any) { calls = append(calls, call{name, do}) }
+	for _, b := range [][]byte{nil, make([]byte, 12), make([]byte, 240), sampleBytes(300, 4), rawDns("\x3f"), rawDns("\xc0\x0c"), rawDns("\x02a.\x00"),
+		dnsBytes(impl.Dns{Name: "a.b"}), dhcpBytes(impl.Dhcp{Kind: 1, Mac: macA}), rawDhcp("\x35"), rawDhcp("\x35\xff"), rawDhcp("\x0c\xffab"),
+		rawDhcp("\x35\x01\x09\x35\x01\x02\xff"), rawDns(strings.Repeat("\x01a", 32000)), rawDhcp(strings.Repeat("\x35\x01\x03", 21000)),
+		make([]byte, impl.MaxText), make([]byte, impl.MaxText+1)} {
+		add("ReadDns", func() []any { d, code := impl.ReadDns(b); return []any{d, code} })
+		add("ReadDhcp", func() []any { d, code := impl.ReadDhcp(b); return []any{d, code} })
+	}
+	for _, text := range []string{"", ".", "a.b", macA, "\xff", joined("h", 8), strings.Repeat("a.", impl.MaxText), strings.Repeat("t", impl.MaxText+1)} {
+		add("DnsNameOK", func() []any { return []any{impl.DnsNameOK(text)} })
+		for _, n := range []int{math.MinInt, -1, 0, 1, 8, 9, 255, 256, 65535, 65536, impl.MaxAddress, impl.MaxAddress + 1, math.MaxInt} {
+			add("DnsBytes", func() []any {
+				b, code := impl.DnsBytes(impl.Dns{Id: n, Type: n, Answer: n%2 == 0, Name: text})
+				return []any{string(b), code}
+			})
+			add("DhcpBytes", func() []any {
+				b, code := impl.DhcpBytes(impl.Dhcp{Xid: n, Yours: n, Kind: n, Reply: n%2 == 0, Mac: text})
 				return []any{string(b), code}
 			})
 		}
