@@ -76,6 +76,22 @@ func TestMessagesHandedInStayAsTheyWere(t *testing.T) {
 	}
 }
 
+func TestHashedTextsStayAsTheyWere(t *testing.T) {
+	for _, size := range []int{0, 1, 54, 55, 56, 63, 64, 65, 119, 120, 128, impl.MaxText, impl.MaxText + 1} {
+		// A hash lays up to two blocks behind a text: there is room for them.
+		room := sampleBytes(size+200, size)
+		before := bytes.Clone(room)
+		h, sum := impl.Hash(room[:size]), impl.Check32(room[:size])
+		if !bytes.Equal(room, before) {
+			t.Errorf("with %d bytes handed in, what was there changed", size)
+		}
+		tight := bytes.Clone(room[:size])
+		if impl.Hash(tight[:size:size]) != h || impl.Check32(tight[:size:size]) != sum {
+			t.Errorf("of %d bytes the answers hang on what stands behind them", size)
+		}
+	}
+}
+
 // What stands behind the end of an argument is not of it, even if it would make it whole.
 func TestMessagesEndAtTheirEnd(t *testing.T) {
 	question, lease := dnsBytes(impl.Dns{Id: 1, Type: 2, Name: "a.bc"}), dhcpBytes(impl.Dhcp{Kind: 3, Mac: macA})
@@ -171,6 +187,12 @@ func TestEmptyAndNilAreAlike(t *testing.T) {
 	if m, other := impl.NumberOf([]byte{}); n != m || code != other {
 		t.Error("NumberOf tells nil from an empty list")
 	}
+	if h := impl.Hash(nil); h != impl.Hash([]byte{}) || h == "" {
+		t.Error("Hash tells nil from an empty list")
+	}
+	if impl.Check32(nil) != impl.Check32([]byte{}) {
+		t.Error("Check32 tells nil from an empty list")
+	}
 }
 
 // sampleCalls has the calls of the chapters with right arguments, edges and
@@ -195,7 +217,7 @@ func sampleCalls() []call {
 			add("NumberBytes", func() []any { b, code := impl.NumberBytes(n, size); return []any{string(b), code} })
 		}
 	}
-	return slices.Concat(calls, wireCalls(), appCalls())
+	return slices.Concat(calls, wireCalls(), appCalls(), hashCalls())
 }
 
 // wireCalls has the calls of chapter 3 likewise.
@@ -261,6 +283,27 @@ func appCalls() []call {
 				b, code := impl.DhcpBytes(impl.Dhcp{Xid: n, Yours: n, Kind: n, Reply: n%2 == 0, Mac: text})
 				return []any{string(b), code}
 			})
+		}
+	}
+	return calls
+}
+
+// hashCalls has the calls of chapter 5 likewise.
+func hashCalls() []call {
+	var calls []call
+	add := func(name string, do func() []any) { calls = append(calls, call{name, do}) }
+	for _, size := range []int{0, 1, 31, 32, 33, 40, 41, 55, 56, 63, 64, 65, 119, 120, impl.MaxText, impl.MaxText + 1} {
+		for _, s := range []string{string(sampleBytes(size, 8)), strings.Repeat("0", size)} {
+			add("Hash", func() []any { return []any{impl.Hash([]byte(s))} })
+			add("Check32", func() []any { return []any{impl.Check32([]byte(s))} })
+			add("HashText", func() []any { text, code := impl.HashText(s); return []any{text, code} })
+			add("ReadHash", func() []any { h, code := impl.ReadHash(s); return []any{h, code} })
+			add("HashBits", func() []any { signs, code := impl.HashBits(s); return []any{signs, code} })
+			add("SameHash", func() []any { return []any{impl.SameHash(s, s), impl.SameHash(s, ""), impl.SameHash("", s)} })
+			for _, rounds := range []int{math.MinInt, -1, 0, 1, 20, 21, math.MaxInt} {
+				add("PassHash", func() []any { h, code := impl.PassHash(s, "word", rounds); return []any{h, code} })
+				add("PassHash", func() []any { h, code := impl.PassHash("salt", s, rounds); return []any{h, code} })
+			}
 		}
 	}
 	return calls
