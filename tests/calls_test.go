@@ -217,7 +217,7 @@ func sampleCalls() []call {
 			add("NumberBytes", func() []any { b, code := impl.NumberBytes(n, size); return []any{string(b), code} })
 		}
 	}
-	return slices.Concat(calls, wireCalls(), appCalls(), hashCalls())
+	return slices.Concat(calls, wireCalls(), appCalls(), hashCalls(), setsCalls())
 }
 
 // wireCalls has the calls of chapter 3 likewise.
@@ -304,6 +304,36 @@ func hashCalls() []call {
 				add("PassHash", func() []any { h, code := impl.PassHash(s, "word", rounds); return []any{h, code} })
 				add("PassHash", func() []any { h, code := impl.PassHash("salt", s, rounds); return []any{h, code} })
 			}
+		}
+	}
+	return calls
+}
+
+// setsCalls has the calls of chapter 6 likewise.
+func setsCalls() []call {
+	var calls []call
+	add := func(name string, do func() []any) { calls = append(calls, call{name, do}) }
+	nets := append(wrongNets(), impl.Net{}, impl.Net{Bits: 32}, impl.Net{Ip: 0x80000000, Bits: 1}, impl.Net{Ip: 0x0a000000, Bits: 24})
+	for _, n := range nets {
+		add("NetOK", func() []any { return []any{impl.NetOK(n)} })
+		add("NetText", func() []any { text, code := impl.NetText(n); return []any{text, code} })
+		for _, ip := range append(outside(4), 0, 0x0a000005, impl.MaxAddress) {
+			add("NetHas", func() []any { has, code := impl.NetHas(n, ip); return []any{has, code} })
+			for _, size := range []int{0, 1, 2, 20, 21, impl.MaxList, impl.MaxList + 1} {
+				list := slices.Repeat([]impl.Net{n}, size)
+				add("LongestNet", func() []any { k, code := impl.LongestNet(list, ip); return []any{k, code} })
+			}
+		}
+	}
+	for _, text := range []string{"", "/", "10.0.0.0/8", "10.0.0.0/-8", "0.0.0.0/0", "1.2.3.4/32", "1.2.3.4/99", strings.Repeat("/", impl.MaxText), strings.Repeat("/", impl.MaxText+1)} {
+		add("ReadNet", func() []any { n, code := impl.ReadNet(text); return []any{n, code} })
+	}
+	for _, list := range append(wrongTimers(), nil, rising(1), rising(5), rising(20), rising(impl.MaxList), rising(impl.MaxList+1)) {
+		for _, n := range []int{math.MinInt, -1, 0, 1, 4, 20, 1000000, 1000001, math.MaxInt} {
+			add("TimerPut", func() []any { next, code := impl.TimerPut(list, impl.Timer{At: n, Id: 3}); return []any{next, code} })
+			add("TimerPut", func() []any { next, code := impl.TimerPut(list, impl.Timer{At: 3, Id: n}); return []any{next, code} })
+			add("TimersDue", func() []any { left, ids, code := impl.TimersDue(list, n); return []any{left, ids, code} })
+			add("TimerDrop", func() []any { next, code := impl.TimerDrop(list, n); return []any{next, code} })
 		}
 	}
 	return calls
