@@ -217,7 +217,7 @@ func sampleCalls() []call {
 			add("NumberBytes", func() []any { b, code := impl.NumberBytes(n, size); return []any{string(b), code} })
 		}
 	}
-	return slices.Concat(calls, wireCalls(), appCalls(), hashCalls(), setsCalls())
+	return slices.Concat(calls, wireCalls(), appCalls(), hashCalls(), setsCalls(), meterCalls())
 }
 
 // wireCalls has the calls of chapter 3 likewise.
@@ -334,6 +334,40 @@ func setsCalls() []call {
 			add("TimerPut", func() []any { next, code := impl.TimerPut(list, impl.Timer{At: 3, Id: n}); return []any{next, code} })
 			add("TimersDue", func() []any { left, ids, code := impl.TimersDue(list, n); return []any{left, ids, code} })
 			add("TimerDrop", func() []any { next, code := impl.TimerDrop(list, n); return []any{next, code} })
+		}
+	}
+	return calls
+}
+
+// meterCalls has the calls of chapter 7 likewise.
+func meterCalls() []call {
+	var calls []call
+	add := func(name string, do func() []any) { calls = append(calls, call{name, do}) }
+	words := append(wrongWords(), impl.Word{}, impl.Word{High: 0x80000000}, impl.Word{High: 0x7ff00000}, impl.Word{High: 0x7ff00000, Low: 1},
+		impl.Word{High: 0x3ff00000}, impl.Word{High: 0xffffffff, Low: 0xffffffff})
+	for _, w := range words {
+		add("ClassOf", func() []any { class, code := impl.ClassOf(w); return []any{class, code} })
+		add("NegOf", func() []any { turned, code := impl.NegOf(w); return []any{turned, code} })
+		add("RateWord", func() []any { return []any{impl.RateWord(w)} })
+		for _, other := range words {
+			add("OrderOf", func() []any { n, code := impl.OrderOf(w, other); return []any{n, code} })
+		}
+		for _, size := range []int{0, 1, 99, 100, 4095, 4096} {
+			list := append(fallingWords(size), w)
+			add("SortWords", func() []any { sorted, code := impl.SortWords(list); return []any{sorted, code} })
+		}
+	}
+	meters := append(wrongMeters(), impl.Meter{}, impl.Meter{Count: 1}, impl.Meter{Mean: 3, Least: -4, Most: 5, Count: 1000000})
+	for _, x := range append(wrongAmounts(), -impl.MaxValue, -1, 0, 1, impl.MaxValue) {
+		for _, size := range []int{0, 1, impl.MaxList, impl.MaxList + 1} {
+			list := slices.Repeat([]int{x}, size)
+			add("MeanOf", func() []any { n, code := impl.MeanOf(list); return []any{n, code} })
+		}
+		for _, m := range meters {
+			add("MeterAdd", func() []any { next, code := impl.MeterAdd(m, x); return []any{next, code} })
+		}
+		for _, b := range append(wrongAmounts(), -impl.MaxValue, -1, 0, 1, impl.MaxValue) {
+			add("ShareOf", func() []any { n, code := impl.ShareOf(x, b); return []any{n, code} })
 		}
 	}
 	return calls
