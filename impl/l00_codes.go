@@ -32,6 +32,8 @@ const (
 // maxDigits bounds a number's text, so that reading one never wraps.
 const maxDigits = 18
 
+const maxShortName = 8
+
 // codeWords stands in the order of the codes: a code is its word's place.
 var codeWords = [...]string{
 	"ok", "bad", "long", "form", "range",
@@ -69,6 +71,10 @@ func CodeOf(word string) int {
 		}
 	}
 	return -1
+}
+
+func shortNameOK(t string) bool {
+	return len(t) <= maxShortName && NameOK(t)
 }
 
 // isLetter counts the underscore as a letter, as all chapters do.

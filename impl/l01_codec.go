@@ -79,7 +79,7 @@ func MacText(mac string) (string, int) {
 	if len(mac) > MaxText {
 		return "", ErrLong
 	}
-	if len(mac) != macSize {
+	if !isMac(mac) {
 		return "", ErrRange
 	}
 	text := make([]byte, 0, macTextSize)
@@ -143,6 +143,10 @@ func NumberOf(b []byte) (int, int) {
 
 func addressOK(ip int) bool {
 	return ip >= 0 && ip <= MaxAddress
+}
+
+func isMac(t string) bool {
+	return len(t) == macSize
 }
 
 // hasRoom tells whether n goes into size bytes, where size is from 1 to maxNumber.

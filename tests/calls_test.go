@@ -217,7 +217,7 @@ func sampleCalls() []call {
 			add("NumberBytes", func() []any { b, code := impl.NumberBytes(n, size); return []any{string(b), code} })
 		}
 	}
-	return slices.Concat(calls, wireCalls(), appCalls(), hashCalls(), setsCalls(), meterCalls())
+	return slices.Concat(calls, wireCalls(), appCalls(), hashCalls(), setsCalls(), meterCalls(), policyCalls())
 }
 
 // wireCalls has the calls of chapter 3 likewise.
@@ -368,6 +368,38 @@ func meterCalls() []call {
 		}
 		for _, b := range append(wrongAmounts(), -impl.MaxValue, -1, 0, 1, impl.MaxValue) {
 			add("ShareOf", func() []any { n, code := impl.ShareOf(x, b); return []any{n, code} })
+		}
+	}
+	return calls
+}
+
+// policyCalls has the calls of chapter 8 likewise.
+func policyCalls() []call {
+	var calls []call
+	add := func(name string, do func() []any) { calls = append(calls, call{name, do}) }
+	for _, r := range append(wrongRules(), impl.Rule{}, impl.Rule{Proto: 17, Ports: impl.Range{Low: 65535, High: 65535}, Allow: true}) {
+		add("RuleOK", func() []any { return []any{impl.RuleOK(r)} })
+		add("RuleText", func() []any { text, code := impl.RuleText(r); return []any{text, code} })
+	}
+	for _, text := range []string{"", " ", "allow any 0.0.0.0/0 80 443", " deny  tcp 5.5.6.0/24 0 65535 ", "deny tcp 5.5.6.1/24 0 65535", "allow udp / - -", "allow", "\xff \x00 / 1 2",
+		strings.Repeat(" ", impl.MaxText), strings.Repeat("a ", impl.MaxText/2), strings.Repeat("a", impl.MaxText+1)} {
+		add("ReadRule", func() []any { r, code := impl.ReadRule(text); return []any{r, code} })
+	}
+	numbers := []int{math.MinInt, -1, 0, 6, 80, 255, 256, 65535, 65536, impl.MaxAddress, impl.MaxAddress + 1, math.MaxInt}
+	for _, r := range append(wrongRoles(), plainConfig().Roles...) {
+		add("RoleOK", func() []any { return []any{impl.RoleOK(r)} })
+		for _, n := range numbers {
+			for _, ends := range [][3]int{{n, quadOne, 80}, {6, n, 80}, {6, quadOne, n}} {
+				add("FirstRule", func() []any { k, code := impl.FirstRule(r, ends[0], ends[1], ends[2]); return []any{k, code} })
+				add("RoleAllows", func() []any { ok, code := impl.RoleAllows(r, ends[0], ends[1], ends[2]); return []any{ok, code} })
+			}
+		}
+	}
+	for _, c := range append(wrongConfigs(), plainConfig(), crowdedConfig()) {
+		add("ConfigOK", func() []any { return []any{impl.ConfigOK(c)} })
+		for _, n := range numbers {
+			add("InGarden", func() []any { in, code := impl.InGarden(c, n, 443); return []any{in, code} })
+			add("InGarden", func() []any { in, code := impl.InGarden(c, quadNine, n); return []any{in, code} })
 		}
 	}
 	return calls
