@@ -217,7 +217,7 @@ func sampleCalls() []call {
 			add("NumberBytes", func() []any { b, code := impl.NumberBytes(n, size); return []any{string(b), code} })
 		}
 	}
-	return slices.Concat(calls, wireCalls(), appCalls(), hashCalls(), setsCalls(), meterCalls(), policyCalls())
+	return slices.Concat(calls, wireCalls(), appCalls(), hashCalls(), setsCalls(), meterCalls(), policyCalls(), guestsCalls())
 }
 
 // wireCalls has the calls of chapter 3 likewise.
@@ -400,6 +400,60 @@ func policyCalls() []call {
 		for _, n := range numbers {
 			add("InGarden", func() []any { in, code := impl.InGarden(c, n, 443); return []any{in, code} })
 			add("InGarden", func() []any { in, code := impl.InGarden(c, quadNine, n); return []any{in, code} })
+		}
+	}
+	return calls
+}
+
+// guestsCalls has the calls of chapter 9 likewise.
+func guestsCalls() []call {
+	var calls []call
+	add := func(name string, do func() []any) { calls = append(calls, call{name, do}) }
+	numbers := []int{math.MinInt, -1, 0, 1, 5, 7, 25, 301, 10000, impl.MaxNow, impl.MaxNow + 1, 1000001, guestIp(1), impl.MaxAddress + 1, math.MaxInt}
+	texts := []string{"", "ann", "apple", "dan", "dates", macA, guestMac(5), "\xff\x00", strings.Repeat("t", 41), strings.Repeat("t", impl.MaxText+1)}
+	for _, n := range numbers {
+		add("CauseWord", func() []any { return []any{impl.CauseWord(n)} })
+		for _, s := range texts {
+			add("MakeUser", func() []any { u, code := impl.MakeUser(s, s, s, n, n); return []any{u, code} })
+			add("MakeUser", func() []any { u, code := impl.MakeUser("ann", s, "guest", n, 3); return []any{u, code} })
+			add("MakeUser", func() []any { u, code := impl.MakeUser(s, "apple", "guest", 600, n); return []any{u, code} })
+		}
+		list := []impl.Record{{Id: n, At: n}, {Id: n, At: 1, Stop: true}, {Id: 1, At: n, Stop: true}}
+		for size := range len(list) + 1 {
+			add("RecordsHold", func() []any { ok, code := impl.RecordsHold(list[:size]); return []any{ok, code} })
+		}
+	}
+	c := plainConfig()
+	for _, g := range slices.Concat(rightGuests(), wrongGuests()) {
+		add("GuestsOK", func() []any { return []any{impl.GuestsOK(c, g), impl.GuestsOK(impl.Config{}, g)} })
+		for _, n := range numbers {
+			add("EndSession", func() []any { next, code := impl.EndSession(c, g, 5, 25, n); return []any{next, code} })
+			add("EndSession", func() []any { next, code := impl.EndSession(c, g, n, n, 1); return []any{next, code} })
+			add("Charge", func() []any { next, code := impl.Charge(c, g, 5, n, 25); return []any{next, code} })
+			add("Charge", func() []any { next, code := impl.Charge(c, g, n, 1, n); return []any{next, code} })
+			add("ExpireSessions", func() []any { next, ids, code := impl.ExpireSessions(c, g, n); return []any{next, ids, code} })
+			add("EndMoved", func() []any { next, ids, code := impl.EndMoved(c, g, macA, n, 25); return []any{next, ids, code} })
+			add("SessionAt", func() []any { id, code := impl.SessionAt(g, macA, n); return []any{id, code} })
+			add("Login", func() []any {
+				next, id, code := impl.Login(c, g, "dan", "dates", macA, n, n)
+				return []any{next, id, code}
+			})
+		}
+		for _, s := range texts {
+			add("EndMoved", func() []any { next, ids, code := impl.EndMoved(c, g, s, guestIp(1), 25); return []any{next, ids, code} })
+			add("SessionAt", func() []any { id, code := impl.SessionAt(g, s, guestIp(1)); return []any{id, code} })
+			add("Login", func() []any {
+				next, id, code := impl.Login(c, g, s, "dates", macA, guestIp(5), 25)
+				return []any{next, id, code}
+			})
+			add("Login", func() []any {
+				next, id, code := impl.Login(c, g, "dan", s, macA, guestIp(5), 25)
+				return []any{next, id, code}
+			})
+			add("Login", func() []any {
+				next, id, code := impl.Login(c, g, "dan", "dates", s, guestIp(5), 25)
+				return []any{next, id, code}
+			})
 		}
 	}
 	return calls
