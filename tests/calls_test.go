@@ -217,7 +217,7 @@ func sampleCalls() []call {
 			add("NumberBytes", func() []any { b, code := impl.NumberBytes(n, size); return []any{string(b), code} })
 		}
 	}
-	return slices.Concat(calls, wireCalls(), appCalls(), hashCalls(), setsCalls(), meterCalls(), policyCalls(), guestsCalls())
+	return slices.Concat(calls, wireCalls(), appCalls(), hashCalls(), setsCalls(), meterCalls(), policyCalls(), guestsCalls(), flowsCalls())
 }
 
 // wireCalls has the calls of chapter 3 likewise.
@@ -454,6 +454,44 @@ func guestsCalls() []call {
 				next, id, code := impl.Login(c, g, "dan", "dates", s, guestIp(5), 25)
 				return []any{next, id, code}
 			})
+		}
+	}
+	return calls
+}
+
+// flowsCalls has the calls of chapter 10 likewise.
+func flowsCalls() []call {
+	var calls []call
+	add := func(name string, do func() []any) { calls = append(calls, call{name, do}) }
+	numbers := []int{math.MinInt, -1, 0, 1, 2, 3, 4, 6, 8, 31, 32, 50, 255, 256, 10000, 10001, 65535, 65536, impl.MaxNow, impl.MaxNow + 1, impl.MaxNow + 101,
+		impl.MaxAddress, impl.MaxAddress + 1, math.MaxInt}
+	for _, n := range numbers {
+		for _, state := range numbers {
+			add("FlowWait", func() []any { wait, code := impl.FlowWait(n, state); return []any{wait, code} })
+		}
+	}
+	lists := slices.Concat(rightFlows(), wrongFlows(), [][]impl.Flow{manyFlows(impl.MaxList), manyFlows(impl.MaxList + 1)})
+	for _, list := range lists {
+		add("FlowsOK", func() []any { return []any{impl.FlowsOK(list)} })
+		for name, do := range flowChanges() {
+			add(name, func() []any { next, code := do(list); return []any{next, code} })
+		}
+		for _, n := range numbers {
+			for _, e := range [][5]int{{n, 20, 80, 10, 1000}, {6, n, 80, n, 80}, {6, 20, n, 10, n}, {n, n, n, n, n}} {
+				add("FlowFind", func() []any {
+					k, back, code := impl.FlowFind(list, e[0], e[1], e[2], e[3], e[4])
+					return []any{k, back, code}
+				})
+			}
+			for _, number := range flowNumbers() {
+				f := newFlow()
+				*number.number(&f) = n
+				add("FlowOpen", func() []any { next, code := impl.FlowOpen(list, f, n); return []any{next, code} })
+			}
+			add("FlowPass", func() []any { next, code := impl.FlowPass(list, n, true, n, n); return []any{next, code} })
+			add("FlowPass", func() []any { next, code := impl.FlowPass(list, 0, false, n, 50); return []any{next, code} })
+			add("FlowsExpire", func() []any { next, code := impl.FlowsExpire(list, n); return []any{next, code} })
+			add("FlowsDrop", func() []any { next, code := impl.FlowsDrop(list, n); return []any{next, code} })
 		}
 	}
 	return calls
