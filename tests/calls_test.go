@@ -217,7 +217,7 @@ func sampleCalls() []call {
 			add("NumberBytes", func() []any { b, code := impl.NumberBytes(n, size); return []any{string(b), code} })
 		}
 	}
-	return slices.Concat(calls, wireCalls(), appCalls(), hashCalls(), setsCalls(), meterCalls(), policyCalls(), guestsCalls(), flowsCalls())
+	return slices.Concat(calls, wireCalls(), appCalls(), hashCalls(), setsCalls(), meterCalls(), policyCalls(), guestsCalls(), flowsCalls(), tcpdCalls())
 }
 
 // wireCalls has the calls of chapter 3 likewise.
@@ -492,6 +492,41 @@ func flowsCalls() []call {
 			add("FlowPass", func() []any { next, code := impl.FlowPass(list, 0, false, n, 50); return []any{next, code} })
 			add("FlowsExpire", func() []any { next, code := impl.FlowsExpire(list, n); return []any{next, code} })
 			add("FlowsDrop", func() []any { next, code := impl.FlowsDrop(list, n); return []any{next, code} })
+		}
+	}
+	return calls
+}
+
+// tcpdCalls has the calls of chapter 11 likewise.
+func tcpdCalls() []call {
+	var calls []call
+	add := func(name string, do func() []any) { calls = append(calls, call{name, do}) }
+	numbers := []int{math.MinInt, -1, 0, 1, 5, 7, 16, 31, 32, 65535, 65536, 1 << 31, impl.MaxAddress, impl.MaxAddress + 1, math.MaxInt}
+	texts := []string{"", macA, "\xff\x00", strings.Repeat("t", 300), strings.Repeat("t", 301), strings.Repeat("t", impl.MaxText), strings.Repeat("t", impl.MaxText+1)}
+	for _, n := range numbers {
+		for _, m := range numbers {
+			add("SeqLess", func() []any { less, code := impl.SeqLess(n, m); return []any{less, code} })
+		}
+		for _, s := range texts {
+			g := impl.Segment{SrcPort: 1000, DstPort: 80, Seq: n, Flags: impl.FlSyn, Data: s}
+			add("ConnOpen", func() []any { c, told, code := impl.ConnOpen(macA, 10, 20, g, n); return []any{c, told, code} })
+			add("ConnOpen", func() []any { c, told, code := impl.ConnOpen(s, n, n, g, 7); return []any{c, told, code} })
+		}
+	}
+	for _, c := range slices.Concat(rightConns(), wrongConns()) {
+		add("ConnOK", func() []any { return []any{impl.ConnOK(c)} })
+		add("ConnAgain", func() []any { told, code := impl.ConnAgain(c); return []any{told, code} })
+		for _, s := range texts {
+			add("ConnSay", func() []any { next, told, code := impl.ConnSay(c, s); return []any{next, told, code} })
+		}
+		for _, g := range append(wrongSegments(), guestSegment(c.Want, c.Next, impl.FlAck|impl.FlFin, "data"), guestSegment(7, 5, 31, "")) {
+			add("ConnTake", func() []any { next, told, code := impl.ConnTake(c, g); return []any{next, told, code} })
+		}
+		for _, n := range numbers {
+			for _, flags := range []int{impl.FlAck, impl.FlRst, impl.FlSyn, n} {
+				g := impl.Segment{SrcPort: n, DstPort: n, Seq: n, Ack: n, Flags: flags, Window: n, Data: "data"}
+				add("ConnTake", func() []any { next, told, code := impl.ConnTake(c, g); return []any{next, told, code} })
+			}
 		}
 	}
 	return calls
