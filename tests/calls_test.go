@@ -217,7 +217,7 @@ func sampleCalls() []call {
 			add("NumberBytes", func() []any { b, code := impl.NumberBytes(n, size); return []any{string(b), code} })
 		}
 	}
-	return slices.Concat(calls, wireCalls(), appCalls(), hashCalls(), setsCalls(), meterCalls(), policyCalls(), guestsCalls(), flowsCalls(), tcpdCalls())
+	return slices.Concat(calls, wireCalls(), appCalls(), hashCalls(), setsCalls(), meterCalls(), policyCalls(), guestsCalls(), flowsCalls(), tcpdCalls(), httpCalls())
 }
 
 // wireCalls has the calls of chapter 3 likewise.
@@ -528,6 +528,43 @@ func tcpdCalls() []call {
 				add("ConnTake", func() []any { next, told, code := impl.ConnTake(c, g); return []any{next, told, code} })
 			}
 		}
+	}
+	return calls
+}
+
+// httpCalls has the calls of chapter 12 likewise.
+func httpCalls() []call {
+	var calls []call
+	add := func(name string, do func() []any) { calls = append(calls, call{name, do}) }
+	texts := append(wrongPaths(), "/", "/login", "GET", "POST", "a=b&c=%41", "a+b%zz", "%", "%4", "&", "=", "\r\n", "\r\n\r\n", "GET / HTTP/1.1\r\n\r\n", "GET / HTTP/1.1\r\n:\r\n\r\n", " \r\n\r\n", "GET / HTTP/1.1\r\n\r\r\n\r\n",
+		headWith("Content-Length: 3"), headWith("Content-Length: 3")+"abc", headWith("Content-Length: 999999999999999999"), headWith("Content-Length: -999999999999999999"), headWith("Content-Length:"), headOfSize(200), headOfSize(201),
+		string(sampleBytes(300, 9)), strings.Repeat("\r\n", 101), strings.Repeat("&", impl.MaxText), strings.Repeat("%", impl.MaxText), strings.Repeat("+", impl.MaxText), strings.Repeat("t", 1001), strings.Repeat("t", impl.MaxText+1))
+	for _, s := range texts {
+		add("ReadRequest", func() []any { r, size, code := impl.ReadRequest(s); return []any{r, size, code} })
+		add("UnescapeText", func() []any { text, code := impl.UnescapeText(s); return []any{text, code} })
+		add("EscapeText", func() []any { text, code := impl.EscapeText(s); return []any{text, code} })
+		add("ReadForm", func() []any { list, code := impl.ReadForm(s); return []any{list, code} })
+		for _, size := range []int{0, 1, 8, 9, impl.MaxList, impl.MaxList + 1} {
+			list := slices.Repeat([]impl.Pair{{Key: s, Value: s}}, size)
+			add("FormText", func() []any { text, code := impl.FormText(list); return []any{text, code} })
+		}
+		for _, other := range []string{"", "GET", "/login", "body", strings.Repeat("t", impl.MaxText+1)} {
+			add("RequestText", func() []any {
+				text, code := impl.RequestText(impl.Request{Method: other, Path: s})
+				return []any{text, code}
+			})
+			add("RequestText", func() []any {
+				text, code := impl.RequestText(impl.Request{Method: s, Path: other, Body: s})
+				return []any{text, code}
+			})
+			for _, status := range []int{math.MinInt, -1, 0, 200, 302, 503, math.MaxInt} {
+				add("PageText", func() []any { text, code := impl.PageText(status, s, other); return []any{text, code} })
+				add("PageText", func() []any { text, code := impl.PageText(status, other, s); return []any{text, code} })
+			}
+		}
+	}
+	for _, status := range []int{math.MinInt, -1, 0, 200, 201, 302, 400, 403, 404, 429, 503, math.MaxInt} {
+		add("StatusWord", func() []any { return []any{impl.StatusWord(status)} })
 	}
 	return calls
 }
