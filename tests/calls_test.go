@@ -217,7 +217,7 @@ func sampleCalls() []call {
 			add("NumberBytes", func() []any { b, code := impl.NumberBytes(n, size); return []any{string(b), code} })
 		}
 	}
-	return slices.Concat(calls, wireCalls(), appCalls(), hashCalls(), setsCalls(), meterCalls(), policyCalls(), guestsCalls(), flowsCalls(), tcpdCalls(), httpCalls())
+	return slices.Concat(calls, wireCalls(), appCalls(), hashCalls(), setsCalls(), meterCalls(), policyCalls(), guestsCalls(), flowsCalls(), tcpdCalls(), httpCalls(), portalCalls())
 }
 
 // wireCalls has the calls of chapter 3 likewise.
@@ -565,6 +565,46 @@ func httpCalls() []call {
 	}
 	for _, status := range []int{math.MinInt, -1, 0, 200, 201, 302, 400, 403, 404, 429, 503, math.MaxInt} {
 		add("StatusWord", func() []any { return []any{impl.StatusWord(status)} })
+	}
+	return calls
+}
+
+// portalCalls has the calls of chapter 13 likewise.
+func portalCalls() []call {
+	var calls []call
+	add := func(name string, do func() []any) { calls = append(calls, call{name, do}) }
+	c := plainConfig()
+	visitors := append(wrongVisitors(), visitorOf(1, 25), visitorOf(4, 25), visitorOf(5, 25), visitor{strings.Repeat("m", impl.MaxText+1), guestIp(1), 25})
+	texts := []string{"", "x", "\r\n\r\n", "PUT / HTTP/1.1\r\n\r\n", headWith("Content-Length: 3"), headWith("Content-Length: 81"), headOfSize(201), strings.Repeat("t", 201), strings.Repeat("t", impl.MaxText+1)}
+	requests := wrongRequests()
+	for _, r := range portalAsks() {
+		requests = append(requests, r)
+		texts = append(texts, requestByHand(r), requestByHand(r)+"behind it")
+	}
+	for _, g := range []impl.Guests{busyGuests(), quietGuests(), crowd(3, 60), crowd(4, 0), {}, {Next: 1}} {
+		for _, v := range visitors {
+			add("StatusText", func() []any { text, code := impl.StatusText(g, v.mac, v.ip, v.now); return []any{text, code} })
+			for _, r := range requests {
+				add("PortalDo", func() []any {
+					next, page, code := impl.PortalDo(c, g, r, v.mac, v.ip, v.now)
+					return []any{next, page, code}
+				})
+			}
+			for _, s := range texts {
+				add("PortalRead", func() []any {
+					next, page, size, code := impl.PortalRead(c, g, s, v.mac, v.ip, v.now)
+					return []any{next, page, size, code}
+				})
+			}
+		}
+	}
+	for _, row := range statusNumbers() {
+		for _, n := range []int{math.MinInt, -1, row.low, row.high, row.high + 1, math.MaxInt} {
+			g := busyGuests()
+			*row.number(&g) = n
+			add("StatusText", func() []any { text, code := impl.StatusText(g, macA, n, n); return []any{text, code} })
+			add("StatusText", func() []any { text, code := impl.StatusText(g, guestMac(1), guestIp(1), 25); return []any{text, code} })
+		}
 	}
 	return calls
 }

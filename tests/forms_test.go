@@ -386,6 +386,15 @@ func pageStatuses() map[int]string {
 	return map[int]string{200: "OK", 302: "Found", 400: "Bad Request", 403: "Forbidden", 404: "Not Found", 429: "Too Many Requests", 503: "Service Unavailable"}
 }
 
+// pageByHand is a page's text, written out.
+func pageByHand(status int, where, body string) string {
+	page := fmt.Sprintf("HTTP/1.1 %d %s\r\n", status, pageStatuses()[status])
+	if where != "" {
+		page += "Location: " + where + "\r\n"
+	}
+	return page + fmt.Sprintf("Content-Length: %d\r\nConnection: close\r\n\r\n%s", len(body), body)
+}
+
 func TestStatusWords(t *testing.T) {
 	words := pageStatuses()
 	for status := -1000; status <= 2000; status++ {
@@ -401,16 +410,11 @@ func TestStatusWords(t *testing.T) {
 }
 
 func TestPages(t *testing.T) {
-	for status, word := range pageStatuses() {
+	for status := range pageStatuses() {
 		for _, where := range append(samplePaths(), "") {
 			for _, size := range []int{0, 1, 9, 10, 99, 100} {
 				body := string(sampleBytes(size, status))
-				want := fmt.Sprintf("HTTP/1.1 %d %s\r\n", status, word)
-				if where != "" {
-					want += "Location: " + where + "\r\n"
-				}
-				want += fmt.Sprintf("Content-Length: %d\r\nConnection: close\r\n\r\n%s", size, body)
-				if page, code := impl.PageText(status, where, body); page != want || code != impl.OK {
+				if page, code := impl.PageText(status, where, body); page != pageByHand(status, where, body) || code != impl.OK {
 					t.Errorf("PageText(%d, %q, %q) = %q, %d", status, where, body, page, code)
 				}
 			}

@@ -669,6 +669,22 @@ func guestChanges() map[string]func(g impl.Guests) impl.Guests {
 	calls["Login with a wrong word"] = login("dan", "wrong", 3)
 	calls["Login with a wrong word, the first"] = login("dan", "wrong", 0)
 	calls["Login, twice"] = login("ann", "apple", 5)
+	for name, r := range portalAsks() {
+		for _, mac := range []int{1, 3, 4, 5} {
+			calls[fmt.Sprintf("PortalDo, %s by %d", name, mac)] = func(g impl.Guests) impl.Guests {
+				next, _, _ := impl.PortalDo(plainConfig(), g, r, guestMac(mac), guestIp(mac), 25)
+				return next
+			}
+			calls[fmt.Sprintf("PortalRead, %s by %d", name, mac)] = func(g impl.Guests) impl.Guests {
+				next, _, _, _ := impl.PortalRead(plainConfig(), g, requestByHand(r), guestMac(mac), guestIp(mac), 25)
+				return next
+			}
+		}
+	}
+	calls["PortalRead of no request"] = func(g impl.Guests) impl.Guests {
+		next, _, _, _ := impl.PortalRead(plainConfig(), g, "no request\r\n\r\n", guestMac(1), guestIp(1), 25)
+		return next
+	}
 	for name, do := range timedCalls() {
 		for _, now := range []int{25, 35, 50, 2000} {
 			calls[fmt.Sprintf("%s at %d", name, now)] = func(g impl.Guests) impl.Guests {
