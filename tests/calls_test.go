@@ -2,6 +2,7 @@ package tests
 
 import (
 	"bytes"
+	"maps"
 	"math"
 	"reflect"
 	"slices"
@@ -217,7 +218,7 @@ func sampleCalls() []call {
 			add("NumberBytes", func() []any { b, code := impl.NumberBytes(n, size); return []any{string(b), code} })
 		}
 	}
-	return slices.Concat(calls, wireCalls(), appCalls(), hashCalls(), setsCalls(), meterCalls(), policyCalls(), guestsCalls(), flowsCalls(), tcpdCalls(), httpCalls(), portalCalls())
+	return slices.Concat(calls, wireCalls(), appCalls(), hashCalls(), setsCalls(), meterCalls(), policyCalls(), guestsCalls(), flowsCalls(), tcpdCalls(), httpCalls(), portalCalls(), gateCalls())
 }
 
 // wireCalls has the calls of chapter 3 likewise.
@@ -604,6 +605,35 @@ func portalCalls() []call {
 			*row.number(&g) = n
 			add("StatusText", func() []any { text, code := impl.StatusText(g, macA, n, n); return []any{text, code} })
 			add("StatusText", func() []any { text, code := impl.StatusText(g, guestMac(1), guestIp(1), 25); return []any{text, code} })
+		}
+	}
+	return calls
+}
+
+// gateCalls has the calls of chapter 14 likewise.
+func gateCalls() []call {
+	var calls []call
+	add := func(name string, do func() []any) { calls = append(calls, call{name, do}) }
+	add("PlainGateway", func() []any { return []any{impl.PlainGateway()} })
+	gateways := append(rightGateways(), wrongGateways()...)
+	frames := [][]byte{make([]byte, impl.MaxText), make([]byte, impl.MaxText+1)}
+	named := gateFrames()
+	for _, name := range slices.Sorted(maps.Keys(named)) {
+		frames = append(frames, named[name])
+	}
+	// Each gateway meets some of the frames: all of them would take long.
+	for k, g := range gateways {
+		add("GatewayOK", func() []any { return []any{impl.GatewayOK(g)} })
+		add("NewGateway", func() []any { next, code := impl.NewGateway(g.Config, g.Guests); return []any{next, code} })
+		add("TickGate", func() []any { next, outs, code := impl.TickGate(g); return []any{next, outs, code} })
+		for i := range 4 {
+			b := frames[(k+i)%len(frames)]
+			add("LanIn", func() []any { next, outs, code := impl.LanIn(g, b); return []any{next, outs, code} })
+			add("WanIn", func() []any { next, outs, code := impl.WanIn(g, b); return []any{next, outs, code} })
+		}
+		for _, n := range []int{math.MinInt, -1, 0, 5, 7, 10000, impl.MaxAddress, impl.MaxAddress + 1, math.MaxInt} {
+			add("KickGuest", func() []any { next, code := impl.KickGuest(g, n); return []any{next, code} })
+			add("SetIsn", func() []any { next, code := impl.SetIsn(g, n); return []any{next, code} })
 		}
 	}
 	return calls

@@ -1,9 +1,11 @@
 package tests
 
 import (
+	"fmt"
 	"math"
 	"reflect"
 	"slices"
+	"strconv"
 	"strings"
 	"testing"
 
@@ -37,7 +39,7 @@ func TestPlainGateway(t *testing.T) {
 func TestRightGateways(t *testing.T) {
 	for k, g := range rightGateways() {
 		if !impl.GatewayOK(g) {
-			t.Errorf("right gateway %d is none: %v", k, g)
+			t.Errorf("right gateway %d is none: %s", k, legible(g))
 		}
 	}
 }
@@ -45,7 +47,7 @@ func TestRightGateways(t *testing.T) {
 func TestWrongGateways(t *testing.T) {
 	for k, g := range wrongGateways() {
 		if impl.GatewayOK(g) {
-			t.Errorf("wrong gateway %d is right: %v", k, g)
+			t.Errorf("wrong gateway %d is right: %s", k, legible(g))
 		}
 	}
 }
@@ -58,19 +60,19 @@ func TestWrongGatewaysAreRefused(t *testing.T) {
 			for name, take := range sides() {
 				next, outs, code := take(g, in)
 				if code != impl.ErrBad || len(outs) != 0 || !sameGateway(next, impl.Gateway{}) {
-					t.Errorf("%s of wrong gateway %d: %d, %v", name, k, code, next)
+					t.Errorf("%s of wrong gateway %d: %d, %s", name, k, code, legible(next))
 				}
 			}
 		}
 		if next, outs, code := impl.TickGate(g); code != impl.ErrBad || len(outs) != 0 || !sameGateway(next, impl.Gateway{}) {
-			t.Errorf("TickGate of wrong gateway %d: %d, %v", k, code, next)
+			t.Errorf("TickGate of wrong gateway %d: %d, %s", k, code, legible(next))
 		}
 		for _, n := range []int{math.MinInt, -1, 0, 5, 6, impl.MaxAddress + 1, math.MaxInt} {
 			if next, code := impl.KickGuest(g, n); code != impl.ErrBad || !sameGateway(next, impl.Gateway{}) {
-				t.Errorf("KickGuest of wrong gateway %d: %d, %v", k, code, next)
+				t.Errorf("KickGuest of wrong gateway %d: %d, %s", k, code, legible(next))
 			}
 			if next, code := impl.SetIsn(g, n); code != impl.ErrBad || !sameGateway(next, impl.Gateway{}) {
-				t.Errorf("SetIsn of wrong gateway %d: %d, %v", k, code, next)
+				t.Errorf("SetIsn of wrong gateway %d: %d, %s", k, code, legible(next))
 			}
 		}
 	}
@@ -81,7 +83,7 @@ func TestLongFramesAreRefusedAheadOfAll(t *testing.T) {
 		for name, take := range sides() {
 			next, outs, code := take(g, make([]byte, impl.MaxText+1))
 			if code != impl.ErrLong || len(outs) != 0 || !sameGateway(next, impl.Gateway{}) {
-				t.Errorf("%s of too many bytes: %d, %v, %v", name, code, outs, next)
+				t.Errorf("%s of too many bytes: %d, %s, %s", name, code, legible(outs), legible(next))
 			}
 		}
 	}
@@ -92,25 +94,25 @@ func TestNewGateway(t *testing.T) {
 		next, code := impl.NewGateway(plainConfig(), g)
 		if len(g.Sessions) > 0 {
 			if code != impl.ErrState || !sameGateway(next, impl.Gateway{}) {
-				t.Errorf("NewGateway with sessions: %d, %v", code, next)
+				t.Errorf("NewGateway with sessions: %d, %s", code, legible(next))
 			}
 			continue
 		}
 		if code != impl.OK || !impl.GatewayOK(next) || !sameGateway(next, impl.Gateway{Config: plainConfig(), Guests: g}) {
-			t.Errorf("NewGateway of %v: %d, %v", g, code, next)
+			t.Errorf("NewGateway of %s: %d, %s", legible(g), code, legible(next))
 		}
 	}
 	for _, c := range wrongConfigs() {
 		for _, g := range []impl.Guests{quietGuests(), busyGuests()} {
 			if next, code := impl.NewGateway(c, g); code != impl.ErrBad || !sameGateway(next, impl.Gateway{}) {
-				t.Errorf("NewGateway of a wrong configuration: %d, %v", code, next)
+				t.Errorf("NewGateway of a wrong configuration: %d, %s", code, legible(next))
 			}
 		}
 	}
 	// Wrong guests with sessions are ErrBad, too: that comes ahead.
 	for _, g := range wrongGuests() {
 		if next, code := impl.NewGateway(plainConfig(), g); code != impl.ErrBad || !sameGateway(next, impl.Gateway{}) {
-			t.Errorf("NewGateway of wrong guests: %d, %v", code, next)
+			t.Errorf("NewGateway of wrong guests: %d, %s", code, legible(next))
 		}
 	}
 }
@@ -121,12 +123,12 @@ func TestSetIsn(t *testing.T) {
 			want := copiedGateway(g)
 			want.Isn = isn
 			if next, code := impl.SetIsn(g, isn); code != impl.OK || !sameGateway(next, want) {
-				t.Errorf("SetIsn of %d: %d, %v", isn, code, next)
+				t.Errorf("SetIsn of %d: %d, %s", isn, code, legible(next))
 			}
 		}
 		for _, isn := range outside(4) {
 			if next, code := impl.SetIsn(g, isn); code != impl.ErrRange || !sameGateway(next, impl.Gateway{}) {
-				t.Errorf("SetIsn of %d: %d, %v", isn, code, next)
+				t.Errorf("SetIsn of %d: %d, %s", isn, code, legible(next))
 			}
 		}
 	}
@@ -137,13 +139,13 @@ func TestGuestsAreKicked(t *testing.T) {
 		g := busyGateway()
 		want := endedBy(g, k, impl.CaKick)
 		if next, code := impl.KickGuest(g, id); code != impl.OK || !sameGateway(next, want) {
-			t.Errorf("KickGuest of %d: %d, %v; not %v", id, code, next, want)
+			t.Errorf("KickGuest of %d: %d, %s; not %s", id, code, legible(next), legible(want))
 		}
 	}
 	for _, id := range []int{math.MinInt, -5, -1, 0, 1, 4, 6, 8, 9, 10000, 10001, 1<<32 + 5, math.MaxInt} {
 		g := busyGateway()
 		if next, code := impl.KickGuest(g, id); code != impl.ErrNone || !sameGateway(next, g) {
-			t.Errorf("KickGuest of %d: %d, %v", id, code, next)
+			t.Errorf("KickGuest of %d: %d, %s", id, code, legible(next))
 		}
 	}
 	// Without room the record is left out, and the session ends all the same.
@@ -152,7 +154,7 @@ func TestGuestsAreKicked(t *testing.T) {
 	want := copiedGateway(g)
 	want.Guests.Sessions = want.Guests.Sessions[1:]
 	if next, code := impl.KickGuest(g, 2); code != impl.OK || !sameGateway(next, want) {
-		t.Errorf("KickGuest without room for a record: %d, %v", code, next)
+		t.Errorf("KickGuest without room for a record: %d, %s", code, legible(next))
 	}
 }
 
@@ -212,7 +214,7 @@ func TestTicksAreNoMoreThanTimes(t *testing.T) {
 		g.Now, g.Drops = impl.MaxNow, drops
 		next, outs, code := impl.TickGate(g)
 		if code != impl.ErrMany || len(outs) != 0 || !sameGateway(next, g) {
-			t.Errorf("TickGate at MaxNow: %d, %v, %v", code, outs, next)
+			t.Errorf("TickGate at MaxNow: %d, %s, %s", code, legible(outs), legible(next))
 		}
 	}
 	g := impl.PlainGateway()
@@ -240,7 +242,7 @@ func TestTicksSendAgain(t *testing.T) {
 			segmentsTo(third, ourSegment(third, una, "FA", "")),
 		)
 		if code != impl.OK || !slices.Equal(outs, want) {
-			t.Errorf("TickGate at %d: %d, %v; not %v", una, code, outs, want)
+			t.Errorf("TickGate at %d: %d, %s; not %s", una, code, legible(outs), legible(want))
 		}
 	}
 }
@@ -249,7 +251,7 @@ func holdTick(t *testing.T, name string, g, want impl.Gateway, outs []impl.Out) 
 	t.Helper()
 	next, told, code := impl.TickGate(g)
 	if code != impl.OK || !slices.Equal(told, outs) {
-		t.Errorf("TickGate, %s: %d, %v; not %v", name, code, told, outs)
+		t.Errorf("TickGate, %s: %d, %s; not %s", name, code, legible(told), legible(outs))
 	}
 	holdGateway(t, "TickGate, "+name, next, want)
 	return next
@@ -281,7 +283,7 @@ func holdTakenIn(t *testing.T, name string, g, next impl.Gateway, told, outs []i
 		change(&want)
 	}
 	if found != code || !slices.Equal(told, outs) {
-		t.Errorf("%s: %d, %v; not %d, %v", name, found, told, code, outs)
+		t.Errorf("%s: %d, %s; not %d, %s", name, found, legible(told), code, legible(outs))
 	}
 	holdGateway(t, name, next, want)
 }
@@ -289,11 +291,16 @@ func holdTakenIn(t *testing.T, name string, g, next impl.Gateway, told, outs []i
 func holdGateway(t *testing.T, name string, got, want impl.Gateway) {
 	t.Helper()
 	if !sameGateway(got, want) {
-		t.Errorf("%s: the gateway is\n%v, not\n%v", name, got, want)
+		t.Errorf("%s: the gateway is\n%s, not\n%s", name, legible(got), legible(want))
 	}
 	if !impl.GatewayOK(got) {
-		t.Errorf("%s: the gateway is not right: %v", name, got)
+		t.Errorf("%s: the gateway is not right: %s", name, legible(got))
 	}
+}
+
+// legible tells macs and frames, which are bytes of any kind, by escapes.
+func legible(what any) string {
+	return strconv.QuoteToASCII(fmt.Sprintf("%+v", what))
 }
 
 // sides has both calls that take a frame.
