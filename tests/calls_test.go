@@ -2,7 +2,6 @@ package tests
 
 import (
 	"bytes"
-	"maps"
 	"math"
 	"reflect"
 	"slices"
@@ -218,7 +217,7 @@ func sampleCalls() []call {
 			add("NumberBytes", func() []any { b, code := impl.NumberBytes(n, size); return []any{string(b), code} })
 		}
 	}
-	return slices.Concat(calls, wireCalls(), appCalls(), hashCalls(), setsCalls(), meterCalls(), policyCalls(), guestsCalls(), flowsCalls(), tcpdCalls(), httpCalls(), portalCalls(), gateCalls())
+	return slices.Concat(calls, wireCalls(), appCalls(), hashCalls(), setsCalls(), meterCalls(), policyCalls(), guestsCalls(), flowsCalls(), tcpdCalls(), httpCalls(), portalCalls(), gateCalls(), auditCalls())
 }
 
 // wireCalls has the calls of chapter 3 likewise.
@@ -616,11 +615,7 @@ func gateCalls() []call {
 	add := func(name string, do func() []any) { calls = append(calls, call{name, do}) }
 	add("PlainGateway", func() []any { return []any{impl.PlainGateway()} })
 	gateways := append(rightGateways(), wrongGateways()...)
-	frames := [][]byte{make([]byte, impl.MaxText), make([]byte, impl.MaxText+1)}
-	named := gateFrames()
-	for _, name := range slices.Sorted(maps.Keys(named)) {
-		frames = append(frames, named[name])
-	}
+	frames := append(sampleFrames(), make([]byte, impl.MaxText), make([]byte, impl.MaxText+1))
 	// Each gateway meets some of the frames: all of them would take long.
 	for k, g := range gateways {
 		add("GatewayOK", func() []any { return []any{impl.GatewayOK(g)} })
@@ -634,6 +629,33 @@ func gateCalls() []call {
 		for _, n := range []int{math.MinInt, -1, 0, 5, 7, 10000, impl.MaxAddress, impl.MaxAddress + 1, math.MaxInt} {
 			add("KickGuest", func() []any { next, code := impl.KickGuest(g, n); return []any{next, code} })
 			add("SetIsn", func() []any { next, code := impl.SetIsn(g, n); return []any{next, code} })
+		}
+	}
+	return calls
+}
+
+// auditCalls has the calls of chapter 15 likewise.
+func auditCalls() []call {
+	var calls []call
+	add := func(name string, do func() []any) { calls = append(calls, call{name, do}) }
+	frames := append(sampleFrames(), make([]byte, impl.MaxText), make([]byte, impl.MaxText+1))
+	names := []string{"", "ann", "bob", "nobody", "\xff", strings.Repeat("n", impl.MaxText), strings.Repeat("n", impl.MaxText+1)}
+	gateways := append(rightGateways(), wrongGateways()...)
+	for _, n := range []int{math.MinInt, -1, math.MaxInt} {
+		g := busyGateway()
+		g.Guests.Sessions[0].User, g.Guests.Sessions[1].Ip, g.Flows[0].Owner, g.Guests.Records[0].Id = n, n, n, n
+		gateways = append(gateways, g)
+	}
+	// Each gateway meets some of the frames: all of them would take long.
+	for k, g := range gateways {
+		add("BytesHold", func() []any { ok, code := impl.BytesHold(g); return []any{ok, code} })
+		add("FlowsHold", func() []any { ok, code := impl.FlowsHold(g); return []any{ok, code} })
+		for i := range 5 {
+			b := frames[(5*k+i)%len(frames)]
+			add("SightOf", func() []any { s, code := impl.SightOf(g, b); return []any{s, code} })
+		}
+		for _, name := range names {
+			add("SpentOf", func() []any { n, code := impl.SpentOf(g, name); return []any{n, code} })
 		}
 	}
 	return calls

@@ -3,6 +3,7 @@ package tests
 import (
 	"bytes"
 	"fmt"
+	"maps"
 	"reflect"
 	"slices"
 	"testing"
@@ -54,6 +55,16 @@ func gateFrames() map[string][]byte {
 		}
 	}
 	return frames
+}
+
+// sampleFrames are gateFrames in the order of their names.
+func sampleFrames() [][]byte {
+	var list [][]byte
+	named := gateFrames()
+	for _, name := range slices.Sorted(maps.Keys(named)) {
+		list = append(list, named[name])
+	}
+	return list
 }
 
 // gateChanges has each way of the calls that answer a gateway, of busyGateway.
