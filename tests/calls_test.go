@@ -217,7 +217,7 @@ func sampleCalls() []call {
 			add("NumberBytes", func() []any { b, code := impl.NumberBytes(n, size); return []any{string(b), code} })
 		}
 	}
-	return slices.Concat(calls, wireCalls(), appCalls(), hashCalls(), setsCalls(), meterCalls(), policyCalls(), guestsCalls(), flowsCalls(), tcpdCalls(), httpCalls(), portalCalls(), gateCalls(), auditCalls())
+	return slices.Concat(calls, wireCalls(), appCalls(), hashCalls(), setsCalls(), meterCalls(), policyCalls(), guestsCalls(), flowsCalls(), tcpdCalls(), httpCalls(), portalCalls(), gateCalls(), auditCalls(), scriptCalls())
 }
 
 // wireCalls has the calls of chapter 3 likewise.
@@ -658,5 +658,44 @@ func auditCalls() []call {
 			add("SpentOf", func() []any { n, code := impl.SpentOf(g, name); return []any{n, code} })
 		}
 	}
+	return calls
+}
+
+// scriptCalls has the calls of chapter 16 likewise.
+func scriptCalls() []call {
+	var calls []call
+	add := func(name string, do func() []any) { calls = append(calls, call{name, do}) }
+	acts := append(sampleActs(), impl.Act{Kind: impl.WoLan, Bytes: strings.Repeat("b", impl.MaxText)}, impl.Act{Kind: impl.WoWan, Bytes: strings.Repeat("b", impl.MaxText+1)}, impl.Act{Bytes: strings.Repeat("b", impl.MaxText+1)})
+	// Each gateway meets some of the acts: all of them would take long.
+	for k, g := range append(rightGateways(), wrongGateways()...) {
+		for i := range 5 {
+			a := acts[(5*k+i)%len(acts)]
+			add("ActDo", func() []any { next, outs, code := impl.ActDo(g, a); return []any{next, outs, code} })
+		}
+	}
+	for _, list := range [][]impl.Act{nil, busyScript(), acts[:120], acts[120:240], acts[len(acts)-3:], acts[len(acts)-2:], slices.Repeat(acts[:1], 121), slices.Repeat(acts[:1], 4096), slices.Repeat(acts[:1], 4097)} {
+		add("ActsRun", func() []any {
+			g, outs, codes, code := impl.ActsRun(list)
+			return []any{g, outs, codes, code}
+		})
+	}
+	var outs []impl.Out
+	for k, b := range sampleFrames() {
+		outs = append(outs, impl.Out{Side: 1 + k%2, Bytes: string(b)})
+	}
+	for _, side := range []int{math.MinInt, -1, 0, 1, 2, 3, math.MaxInt} {
+		for _, size := range []int{0, 14, 414, 415, 1000, 1001, impl.MaxText + 1} {
+			outs = append(outs, impl.Out{Side: side, Bytes: strings.Repeat("b", size)})
+		}
+	}
+	for _, o := range outs {
+		for _, size := range []int{0, 1, 2, 4096, 4097} {
+			add("OutsText", func() []any {
+				texts, code := impl.OutsText(slices.Repeat([]impl.Out{o}, size))
+				return []any{texts, code}
+			})
+		}
+	}
+	add("OutsText", func() []any { texts, code := impl.OutsText(outs); return []any{texts, code} })
 	return calls
 }

@@ -97,6 +97,7 @@ func gateChanges() map[string]func(g impl.Gateway) (impl.Gateway, []impl.Out, in
 		next, code := impl.NewGateway(g.Config, g.Guests)
 		return next, nil, code
 	}
+	maps.Copy(calls, actChanges())
 	return calls
 }
 
