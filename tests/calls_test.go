@@ -3,6 +3,7 @@ package tests
 import (
 	"bytes"
 	"math"
+	"math/rand"
 	"reflect"
 	"slices"
 	"strings"
@@ -217,7 +218,7 @@ func sampleCalls() []call {
 			add("NumberBytes", func() []any { b, code := impl.NumberBytes(n, size); return []any{string(b), code} })
 		}
 	}
-	return slices.Concat(calls, wireCalls(), appCalls(), hashCalls(), setsCalls(), meterCalls(), policyCalls(), guestsCalls(), flowsCalls(), tcpdCalls(), httpCalls(), portalCalls(), gateCalls(), auditCalls(), scriptCalls())
+	return slices.Concat(calls, wireCalls(), appCalls(), hashCalls(), setsCalls(), meterCalls(), policyCalls(), guestsCalls(), flowsCalls(), tcpdCalls(), httpCalls(), portalCalls(), gateCalls(), auditCalls(), scriptCalls(), consoleCalls())
 }
 
 // wireCalls has the calls of chapter 3 likewise.
@@ -697,5 +698,27 @@ func scriptCalls() []call {
 		}
 	}
 	add("OutsText", func() []any { texts, code := impl.OutsText(outs); return []any{texts, code} })
+	return calls
+}
+
+// consoleCalls has the calls of chapter 17 likewise.
+func consoleCalls() []call {
+	var calls []call
+	add := func(name string, do func() []any) { calls = append(calls, call{name, do}) }
+	lines := append(rightLines(), "", " ", "#", "# none", "records", "tick now", "go", "arp 4", "kick -0", "kick "+strings.Repeat("9", 19), "syn 1 5.5.5.5 65536", "say 1 10.0.0.1 PUT /",
+		"send 1 5.5.5.5 443 "+strings.Repeat("x", 101), "\xff\x00", "tick\r", "tick\n", strings.Repeat("x", impl.MaxText), strings.Repeat(" ", impl.MaxText+1), strings.Repeat("\n", impl.MaxText), strings.Repeat("a ", impl.MaxText/2))
+	for _, line := range lines {
+		add("ReadLine", func() []any { a, code := impl.ReadLine(line); return []any{a, code} })
+		for _, size := range []int{1, 2, 60, 61} {
+			if text := strings.Repeat(line+"\n", size); len(text) < 3*impl.MaxText {
+				add("Console", func() []any { said, code := impl.Console(text); return []any{said, code} })
+			}
+		}
+	}
+	chance := rand.New(rand.NewSource(17))
+	for range 60 {
+		text := textOf(randomText(chance, chance.Intn(62)))
+		add("Console", func() []any { said, code := impl.Console(text); return []any{said, code} })
+	}
 	return calls
 }

@@ -112,6 +112,13 @@ func (s *script) holdBalances(t *testing.T) {
 			t.Errorf("a record of nobody: %s", legible(r))
 		}
 	}
+	for id := range s.began {
+		is := func(r impl.Record) bool { return r.Id == id && r.Stop }
+		there := slices.ContainsFunc(s.g.Guests.Sessions, func(o impl.Session) bool { return o.Id == id })
+		if there == slices.ContainsFunc(s.g.Guests.Records, is) {
+			t.Errorf("of session %d, there: %v, records tell %s", id, there, legible(s.g.Guests.Records))
+		}
+	}
 	for k, u := range impl.PlainGateway().Guests.Users {
 		if taken := u.Balance - s.g.Guests.Users[k].Balance; taken != told[k] {
 			t.Errorf("%d is taken off %s, %d is told: %s", taken, u.Name, told[k], legible(s.g.Guests))
